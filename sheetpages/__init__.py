@@ -1,0 +1,1 @@
+"""Parts of a large sheet on pages of paper."""
