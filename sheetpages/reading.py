@@ -9,6 +9,13 @@ FORMS = (
     ("titles", 1, 1),
     ("breaks", 1, 1),
     ("scale", 1, 0),
+    ("fit", 2, 0),
+    ("how", 4, 0),
+    ("heads", 0, 2),
+    ("pages", 0, 0),
+    ("page", 1, 0),
+    ("where", 2, 0),
+    ("texts", 1, 0),
 )
 
 

@@ -2,15 +2,18 @@
 
 from sheetpages.refusals import OutOfRange, TooMany
 from sheetpages.way_settings import WaySettings
+from sheetpages.written_texts import check_text
 
 LONGEST_SIDE = 100000
 MOST_AREAS = 32
 SMALLEST_SCALE = 10
 LARGEST_SCALE = 400
+MOST_BANDS = 1000
+FARTHEST_FIRST_NUMBER = 1000000
 
 
 class SheetSettings:
-    """The two ways, rows ahead of columns, the areas and the scale of one sheet."""
+    """What is told of one sheet: its two ways, rows ahead of columns, and what is told for all of it."""
 
     def __init__(self):
         self.begin()
@@ -21,6 +24,11 @@ class SheetSettings:
         self.set_paper(595, 842, 50, 50, 50, 50)
         self.areas = []
         self.scale = 100
+        self.fit = None
+        self.beside_first = False
+        self.first_number = 1
+        self.head = []
+        self.foot = []
 
     def set_paper(self, width, height, left, right, top, bottom):
         """Take another paper."""
@@ -50,6 +58,31 @@ class SheetSettings:
         if scale < SMALLEST_SCALE or scale > LARGEST_SCALE:
             raise OutOfRange()
         self.scale = scale
+        self.fit = None
+
+    def set_fit(self, wide, tall):
+        """Take, instead of a scale, how many bands of columns and of rows an area may have; 0 is any number."""
+        if wide > MOST_BANDS or tall > MOST_BANDS:
+            raise OutOfRange()
+        self.fit = (wide, tall)
+
+    def set_how(self, over, across, down, first_number):
+        """Take the order of pages, whether all is in the middle across and down, and the first page's number."""
+        if abs(first_number) > FARTHEST_FIRST_NUMBER:
+            raise OutOfRange()
+        rows = self.ways[0]
+        columns = self.ways[1]
+        rows.in_middle = down == 1
+        columns.in_middle = across == 1
+        self.beside_first = over == 1
+        self.first_number = first_number
+
+    def set_heads(self, head, foot):
+        """Take other texts for above and below."""
+        check_text(head)
+        check_text(foot)
+        self.head = head
+        self.foot = foot
 
 
 def check_side(length, near, far):

@@ -8,15 +8,16 @@ MOST_BREAKS = 500
 
 
 class WaySettings:
-    """The places of one way with their sizes, the titles, the breaks, and the paper's space that way."""
+    """The places of one way with their sizes, the titles, the breaks, and how they go on the paper."""
 
     def __init__(self, place_count, size):
         self.place_count = place_count
         self.sizes = [size] * place_count
         self.sizes_told = 0
-        # The paper, which both ways share, is told for the whole sheet: these two come from there.
+        # These three are told for the whole sheet, and set from there.
         self.edge = 0
         self.space = 0
+        self.in_middle = False
         self.titles = None
         self.breaks = {}
 

@@ -1,4 +1,4 @@
-"""Promise 5, as far as it speaks of scale."""
+"""Promise 5, as far as it speaks of scale by itself; test_fit.py has both."""
 
 import unittest
 
